@@ -219,30 +219,42 @@ func TestSplitLimit(t *testing.T) {
 	splitRefused(t, "of 64 bytes", slices.Concat(bytes.Repeat(withNext(of(api.Head{}, 0), 64), 8), of(api.Head{}, 0)), api.ErrLimit)
 }
 
-// P12.2: which error comes first among nine parts: what is wrong of each up to the ninth one, then that there are more than eight, whatever stands behind; then that the first one is Related.
+// related tells a chain whose first part is Related.
+func related(b []byte) []byte {
+	return withFlags(b, api.FlagRelated)
+}
+
+// P12.2: which error comes first among nine parts: what is wrong of each up to the ninth one, then that there are more than eight, whatever stands behind.
 func TestSplitLimitOrder(t *testing.T) {
-	related := row(8)
-	related[16] |= api.FlagRelated
-	splitRefused(t, "the first one is Related", related, api.ErrLimit)
-	for _, b := range [][]byte{row(8), related} {
-		for part := range 9 {
-			at := 72 * part
-			with := func(i int, x byte) []byte {
-				own := slices.Clone(b)
-				own[at+i] = x
-				return own
-			}
-			splitRefused(t, "no head", with(0, 0), api.ErrForm)
-			splitRefused(t, "a Next that is no multiple", with(20, 73), api.ErrForm)
-			splitRefused(t, "a Next that is too low", with(20, 8), api.ErrForm)
-			splitRefused(t, "a Next beyond the end", with(22, 1), api.ErrShort)
-			splitRefused(t, "cut", b[:at+63], api.ErrShort)
+	b := row(8)
+	for part := range 9 {
+		for _, x := range broken(b, 72*part) {
+			splitRefused(t, x.why, x.b, x.e)
 		}
-		splitRefused(t, "the eighth goes just to the end", b[:72*8], api.ErrShort)
 	}
+	splitRefused(t, "the eighth goes just to the end", b[:72*8], api.ErrShort)
 	behind := slices.Concat(row(9)[:72*9], make([]byte, 100))
 	splitRefused(t, "no head behind the ninth", behind, api.ErrLimit)
 	splitRefused(t, "nothing behind the ninth", behind[:72*9], api.ErrLimit)
+}
+
+// broken tells the ways in which the part at a place of a chain may not be, one by one.
+func broken(b []byte, at int) []spoilt {
+	with := func(i int, x byte) []byte {
+		own := slices.Clone(b)
+		own[at+i] = x
+		return own
+	}
+	return []spoilt{
+		{"no head", with(0, 0), api.ErrForm},
+		{"a flag that is none", with(17, 1), api.ErrForm},
+		{"a Next that is no multiple", with(20, 73), api.ErrForm},
+		{"a Next that is too low", with(20, 8), api.ErrForm},
+		{"a Next beyond the end", with(22, 1), api.ErrShort},
+		{"a Next beyond the end, very far", with(23, 255), api.ErrShort},
+		{"cut", b[:at+63], api.ErrShort},
+		{"nothing", b[:at], api.ErrShort},
+	}
 }
 
 // P12.2: a first part that is Related, in a chain of one and of several, also where the others are.
@@ -266,19 +278,68 @@ func TestSplitRelated(t *testing.T) {
 	}
 }
 
-// P12.2: what is wrong of any part comes ahead of the first one's being Related.
-func TestSplitRelatedOrder(t *testing.T) {
-	for n := 1; n < 8; n++ {
-		b := row(n)
-		b[16] |= api.FlagRelated
-		for cut := range 72*n + 64 {
-			splitRefused(t, cut, b[:cut], api.ErrShort)
+// P12.2: what else is wrong of the first part comes ahead of its being Related, in a chain of one, of several and of too many.
+func TestSplitRelatedBehind(t *testing.T) {
+	for n := range 30 {
+		b := related(row(n))
+		for _, x := range broken(b, 0) {
+			splitRefused(t, x.why, x.b, x.e)
 		}
-		splitRefused(t, "whole", b, api.ErrForm)
-		for part := range n + 1 {
-			own := slices.Clone(b)
-			own[72*part+23] = 1
-			splitRefused(t, "a Next beyond the end", own, api.ErrShort)
+		first := 72
+		if n == 0 {
+			first = 64
+		}
+		for cut := range first {
+			splitRefused(t, cut, b[:cut], api.ErrShort)
+			splitRefused(t, cut, b[:cut:cut], api.ErrShort)
+		}
+	}
+}
+
+// P12.2: that the first part is Related comes ahead of whatever is wrong of a later one, and of how many there are.
+func TestSplitRelatedAhead(t *testing.T) {
+	for n := range 30 {
+		b := related(row(n))
+		splitRefused(t, n, b, api.ErrForm)
+		for cut := 72; cut < len(b); cut++ {
+			splitRefused(t, cut, b[:cut], api.ErrForm)
+			splitRefused(t, cut, b[:cut:cut], api.ErrForm)
+		}
+		for part := 1; part <= n; part++ {
+			for _, x := range broken(b, 72*part) {
+				splitRefused(t, x.why, x.b, api.ErrForm)
+			}
+		}
+	}
+	for _, h := range heads() {
+		// With nothing behind it, whatever else its head has, and however many bytes it has.
+		for n := 0; n < 40; n += 8 {
+			one := related(withNext(of(h, n), uint32(64+n)))
+			splitRefused(t, h, one, api.ErrForm)
+			splitRefused(t, h, slices.Concat(one, some(n)), api.ErrForm)
+		}
+	}
+}
+
+// P12.2: only the first part is asked whether it is Related: of later ones each error is told as if they were not.
+func TestSplitRelatedLater(t *testing.T) {
+	for n := range 30 {
+		b := row(n)
+		for part := 1; part <= n; part++ {
+			copy(b[72*part:], related(b[72*part:]))
+		}
+		want := api.OK
+		if n > 7 {
+			want = api.ErrLimit
+		}
+		parts, e := chain.Split(b)
+		if e != want || (e == api.OK && len(parts) != n+1) {
+			t.Errorf("%d later ones are Related: %d parts, %d", n, len(parts), e)
+		}
+		for part := 1; part <= min(n, 8); part++ {
+			for _, x := range broken(b, 72*part) {
+				splitRefused(t, x.why, x.b, x.e)
+			}
 		}
 	}
 }
